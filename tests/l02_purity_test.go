@@ -28,19 +28,26 @@ func checkSameAgain(t *testing.T, a, b, c, d impl.Point, turn, other int64) {
 	}
 }
 
-// TestEveryPointReturnsTheSameAgain puts each two of the numbers into each two of the eight coordinates, and all numbers into both turns.
-func TestEveryPointReturnsTheSameAgain(t *testing.T) {
+// forFarPairs puts each two of the far numbers into each two of eight coordinates, and passes them, too.
+func forFarPairs(coordinates [8]int64, check func(n [8]int64, x, y int64)) {
 	for first := range 8 {
 		for second := range 8 {
 			for _, x := range farCoordinates {
 				for _, y := range farCoordinates {
-					n := [8]int64{0, 0, 9, 9, 0, 9, 9, 0}
+					n := coordinates
 					n[first], n[second] = x, y
-					checkSameAgain(t, pt(n[0], n[1]), pt(n[2], n[3]), pt(n[4], n[5]), pt(n[6], n[7]), x, y)
+					check(n, x, y)
 				}
 			}
 		}
 	}
+}
+
+// TestEveryPointReturnsTheSameAgain puts all numbers into both turns, too.
+func TestEveryPointReturnsTheSameAgain(t *testing.T) {
+	forFarPairs([8]int64{0, 0, 9, 9, 0, 9, 9, 0}, func(n [8]int64, x, y int64) {
+		checkSameAgain(t, pt(n[0], n[1]), pt(n[2], n[3]), pt(n[4], n[5]), pt(n[6], n[7]), x, y)
+	})
 }
 
 func TestEveryCoordinateMayBeFar(t *testing.T) {

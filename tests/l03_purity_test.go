@@ -64,8 +64,8 @@ func TestEveryPolygonReturnsTheSameAgain(t *testing.T) {
 	})
 }
 
-// TestEveryPolygonMayBeFar puts all of the far numbers into polygons of all lengths.
-func TestEveryPolygonMayBeFar(t *testing.T) {
+// forFarLists puts all of the far numbers into lists of all lengths, and passes two of them, too.
+func forFarLists(check func(p []impl.Point, x, y int64)) {
 	size := len(farCoordinates)
 	for n := range 27 {
 		for seed := range size * size {
@@ -73,9 +73,15 @@ func TestEveryPolygonMayBeFar(t *testing.T) {
 			for k := range p {
 				p[k] = pt(farCoordinates[(seed+k*k+3*k)%size], farCoordinates[(seed/size+k*(seed+1))%size])
 			}
-			checkSamePolygonAgain(t, p, mirrored(p), pt(farCoordinates[seed%size], 5), farCoordinates[seed/size], farCoordinates[seed%size])
+			check(p, farCoordinates[seed%size], farCoordinates[seed/size])
 		}
 	}
+}
+
+func TestEveryPolygonMayBeFar(t *testing.T) {
+	forFarLists(func(p []impl.Point, x, y int64) {
+		checkSamePolygonAgain(t, p, mirrored(p), pt(x, 5), y, x)
+	})
 }
 
 // TestFarCoordinatesInAGoodPolygon changes one coordinate after the other: nothing but a valid polygon has results.
