@@ -100,31 +100,39 @@ func checkSameLeavesAgain(t *testing.T, a leafArguments) {
 	}
 }
 
-func TestLeavesAreTheSameAgain(t *testing.T) {
+// forPlentyOfLeaves calls check with leaves and lists of all kinds, and with the number of the call.
+func forPlentyOfLeaves(check func(n int, l impl.Leaf, list []impl.Leaf)) {
 	good, n := goodLeaves(), 0
-	check := func(l impl.Leaf, list []impl.Leaf) {
+	call := func(l impl.Leaf, list []impl.Leaf) {
 		n++
-		b := box(int64(n%3), int64(n%5), 10, 10)
-		a := leafArguments{a: b, b: box(5, 5, int64(n%7), 5), l: l, other: good[n%len(good)], list: list, x: int64(n % 11), y: int64(n % 13), s: []string{"oak", "b", "f1", "c", "pine", "", impl.LeafText(l)}[n%7]}
-		checkSameLeavesAgain(t, a)
-		a.a, a.other, a.x, a.s = box(0, 0, l.Width, l.Length), l, -1, l.Id
-		checkSameLeavesAgain(t, a)
+		check(n, l, list)
 	}
 	for k, l := range good {
-		check(l, leavesOf(k%18))
-		check(l, givenLeaves())
+		call(l, leavesOf(k%18))
+		call(l, givenLeaves())
 	}
 	forBadLeaves(func(_ string, l impl.Leaf) {
 		if len(l.Defects) < 1000 && n%3 == 0 {
-			check(l, leavesOf(n%17))
+			call(l, leavesOf(n%17))
 		}
 		n++
 	})
 	forBadLists(func(_ string, list []impl.Leaf) {
 		if len(list) < 1000 && n%5 == 0 {
-			check(good[n%len(good)], list)
+			call(good[n%len(good)], list)
 		}
 		n++
+	})
+}
+
+func TestLeavesAreTheSameAgain(t *testing.T) {
+	good := goodLeaves()
+	forPlentyOfLeaves(func(n int, l impl.Leaf, list []impl.Leaf) {
+		b := box(int64(n%3), int64(n%5), 10, 10)
+		a := leafArguments{a: b, b: box(5, 5, int64(n%7), 5), l: l, other: good[n%len(good)], list: list, x: int64(n % 11), y: int64(n % 13), s: []string{"oak", "b", "f1", "c", "pine", "", impl.LeafText(l)}[n%7]}
+		checkSameLeavesAgain(t, a)
+		a.a, a.other, a.x, a.s = box(0, 0, l.Width, l.Length), l, -1, l.Id
+		checkSameLeavesAgain(t, a)
 	})
 }
 
